@@ -1,0 +1,44 @@
+"""Kinds of plain values: integers, numbers, names, states, and tuples of integers."""
+
+LETTERS = "abcdefghijklmnopqrstuvwxyz"
+LONGEST_NAME = 8
+
+
+def is_integer(thing):
+    """Whether any value is an integer."""
+    # A bool is an int for Python, but True is not 1 here.
+    return isinstance(thing, int) and not isinstance(thing, bool)
+
+
+def is_number(thing):
+    """Whether any value is an integer that is at least 0."""
+    return is_integer(thing) and thing >= 0
+
+
+def is_name(thing):
+    """Whether any value is a name."""
+    if not isinstance(thing, str) or not 1 <= len(thing) <= LONGEST_NAME:
+        return False
+    return all([letter in LETTERS for letter in thing])
+
+
+def is_state(items, thing):
+    """Whether any value is a state of the items."""
+    if not isinstance(thing, tuple) or len(thing) != len(items):
+        return False
+    return all([is_integer(thing[k]) and low <= thing[k] <= high for k, (name, low, high) in enumerate(items)])
+
+
+def is_integer_tuple(thing):
+    """Whether any value is a tuple of integers, possibly empty."""
+    return isinstance(thing, tuple) and all([is_integer(part) for part in thing])
+
+
+def is_state_set(thing):
+    """Whether any value is, by form, what may stand behind "in"."""
+    if not isinstance(thing, tuple):
+        return False
+    # Only tuples of integers can be compared without asking what they hold.
+    if not all([is_integer_tuple(row) and len(row) > 0 for row in thing]):
+        return False
+    return all([thing[k] < thing[k + 1] for k in range(len(thing) - 1)])
