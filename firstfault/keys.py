@@ -16,10 +16,15 @@ def all_keys(program):
 
 def step_at(program, key):
     """Return the step with this key; UnknownKey for any value that is no key of the program."""
-    steps = steps_around(program, key)
-    if steps is None or key[1][-1] == len(steps):
+    if not has_key(program, key):
         raise UnknownKey(key)
-    return steps[key[1][-1]]
+    return steps_around(program, key)[key[1][-1]]
+
+
+def has_key(program, key):
+    """Whether any value is the key of a step of the program."""
+    steps = steps_around(program, key)
+    return steps is not None and key[1][-1] < len(steps)
 
 
 def keyed_steps(part, steps):

@@ -4,7 +4,7 @@ from firstfault.conditions import lets_condition, lets_count
 from firstfault.errors import InvalidPaper, UnfitPart
 from firstfault.keys import keyed_steps
 from firstfault.kinds import is_integer, is_name
-from firstfault.steps import is_steps
+from firstfault.steps import STEP_KINDS, is_steps
 
 
 def lets_program(thing):
@@ -79,12 +79,8 @@ def names_fit(items, known, step):
 
 def check_expression(items, step):
     """Raise UnfitPart if the number or the condition of a step is none for the items."""
-    word = step[0]
-    if word == "check":
-        lets_condition(items, step[2])
-    elif word == "if":
-        lets_condition(items, step[1])
-    elif word == "set":
-        lets_count(items, step[2])
-    elif word != "call":
-        lets_count(items, step[1])
+    for kind, thing in zip(STEP_KINDS[step[0]], step[1:]):
+        if kind == "number":
+            lets_count(items, thing)
+        elif kind == "condition":
+            lets_condition(items, thing)

@@ -3,6 +3,16 @@
 from firstfault.conditions import is_condition, is_count
 from firstfault.kinds import is_name
 
+# For each word of a step: the kinds of what stands behind it, in order.
+STEP_KINDS = {
+    "check": ("name", "condition"),
+    "say": ("number",),
+    "set": ("name", "number"),
+    "if": ("condition", "steps", "steps"),
+    "repeat": ("number", "steps"),
+    "call": ("name",),
+}
+
 
 def is_step(thing):
     """Whether any value is a step, by form."""
@@ -25,20 +35,19 @@ def is_steps(thing):
 
 def is_step_outline(thing):
     """Whether any value is a step by form, whatever stands where the steps within it are due."""
-    if not isinstance(thing, tuple) or len(thing) == 0:
+    if not isinstance(thing, tuple) or len(thing) == 0 or not isinstance(thing[0], str) or thing[0] not in STEP_KINDS:
         return False
-    word = thing[0]
-    if word == "check":
-        return len(thing) == 3 and is_name(thing[1]) and is_condition(thing[2])
-    if word == "say":
-        return len(thing) == 2 and is_count(thing[1])
-    if word == "set":
-        return len(thing) == 3 and is_name(thing[1]) and is_count(thing[2])
-    if word == "if":
-        return len(thing) == 4 and is_condition(thing[1])
-    if word == "repeat":
-        return len(thing) == 3 and is_count(thing[1])
-    return word == "call" and len(thing) == 2 and is_name(thing[1])
+    kinds = STEP_KINDS[thing[0]]
+    return len(thing) == 1 + len(kinds) and all([is_of_kind(kind, thing[k + 1]) for k, kind in enumerate(kinds)])
+
+
+def is_of_kind(kind, thing):
+    """Whether any value is of this kind by form; any value for steps."""
+    if kind == "name":
+        return is_name(thing)
+    if kind == "number":
+        return is_count(thing)
+    return kind == "steps" or is_condition(thing)
 
 
 def steps_within(step):

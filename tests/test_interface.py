@@ -8,19 +8,46 @@ import unittest
 
 PACKAGE = pathlib.Path(__file__).resolve().parent.parent / "firstfault"
 FUNCTIONS = {
-    "kinds": {"is_integer": ["thing"], "is_number": ["thing"], "is_name": ["thing"], "is_state": ["items", "thing"]},
+    "kinds": {"is_integer": "(thing)", "is_number": "(thing)", "is_name": "(thing)", "is_state": "(items, thing)"},
     "conditions": {
-        "is_count": ["thing"], "is_condition": ["thing"], "parts_of": ["expression"], "lets_count": ["items", "thing"],
-        "lets_condition": ["items", "thing"],
+        "is_count": "(thing)", "is_condition": "(thing)", "parts_of": "(expression)", "lets_count": "(items, thing)",
+        "lets_condition": "(items, thing)",
     },
-    "steps": {"is_step": ["thing"], "is_steps": ["thing"]},
-    "programchecker": {"lets_program": ["thing"]},
-    "keys": {"all_keys": ["program"], "step_at": ["program", "key"]},
+    "steps": {"is_step": "(thing)", "is_steps": "(thing)"},
+    "programchecker": {"lets_program": "(thing)"},
+    "keys": {"all_keys": "(program)", "step_at": "(program, key)"},
     "changes": {
-        "with_step": ["program", "key", "step"], "without_step": ["program", "key"],
-        "with_step_ahead": ["program", "place", "step"],
+        "with_step": "(program, key, step)", "without_step": "(program, key)",
+        "with_step_ahead": "(program, place, step)",
+    },
+    "values": {
+        "value_in": "(items, state, count)", "holds_in": "(items, state, condition)",
+        "put_in": "(items, state, name, count)",
+    },
+    "programtexts": {
+        "expression_text": "(expression)", "step_text": "(step)", "key_text": "(key)", "program_text": "(program)",
+    },
+    "programreadings": {
+        "expression_read": "(text, *, line=0, field=0)", "step_read": "(text, *, line=0, field=0)",
+        "key_read": "(text, *, line=0, field=0)", "program_read": "(text, *, line=0)",
+    },
+    "running": {
+        "states_of": "(items)", "run": "(program, state)", "complained_by": "(program, state)",
+        "trail": "(program, state)",
+        "arrivals": "(program, key)", "complaints_by": "(program, key)", "unreached_keys": "(program)",
+    },
+    "eventtexts": {"event_line": "(event)", "log_lines": "(log)"},
+    "eventreadings": {"read_event": "(text)", "read_log": "(lines)"},
+}
+CLASSES = {
+    ("programclasses", "Program"): {
+        "__init__": "(self, items, steps, calls=())", "__getitem__": "(self, key)", "__contains__": "(self, key)",
+        "__len__": "(self)", "__iter__": "(self)", "__eq__": "(self, other)", "__str__": "(self)",
+        "turned": "(self, key, step)", "less": "(self, key)", "ahead": "(self, place, step)",
     },
 }
+PROPERTIES = {"Program": ("item_rows", "call_rows", "step_rows", "form")}
+CLASS_METHODS = {"Program": {"parsed": "(cls, text)"}}
 
 
 class InterfaceTest(unittest.TestCase):
@@ -30,11 +57,20 @@ class InterfaceTest(unittest.TestCase):
             for function, arguments in functions.items():
                 found = getattr(module, function)
                 self.assertEqual(found.__module__, "firstfault." + name)
-                parameters = inspect.signature(found).parameters.values()
-                self.assertEqual([parameter.name for parameter in parameters], arguments, function)
-                for parameter in parameters:
-                    self.assertEqual(parameter.kind, parameter.POSITIONAL_OR_KEYWORD)
-                    self.assertIs(parameter.default, parameter.empty)
+                self.assertEqual(str(inspect.signature(found)), arguments, function)
+
+    def test_methods_stand_in_their_classes_with_their_arguments(self):
+        for (name, title), methods in CLASSES.items():
+            made = getattr(importlib.import_module("firstfault." + name), title)
+            self.assertEqual([made.__module__, made.__bases__], ["firstfault." + name, (object,)])
+            for method, arguments in methods.items():
+                self.assertEqual(str(inspect.signature(vars(made)[method])), arguments, method)
+            for title_of_property in PROPERTIES[title]:
+                found = vars(made)[title_of_property]
+                self.assertEqual([found.__class__, found.fset, found.fdel], [property, None, None])
+            for method, arguments in CLASS_METHODS[title].items():
+                self.assertIs(vars(made)[method].__class__, classmethod)
+                self.assertEqual(str(inspect.signature(vars(made)[method].__func__)), arguments)
 
 
 class LanguageTest(unittest.TestCase):
@@ -55,6 +91,12 @@ class LanguageTest(unittest.TestCase):
             for node in ast.walk(ast.parse(file.read_text(encoding="utf-8"))):
                 if isinstance(node, ast.FunctionDef):
                     self.assertLessEqual(node.end_lineno - node.lineno + 1, 40, (file, node.name))
+
+    def test_no_generator_expressions(self):
+        # Where a class compares, what goes over values takes a list.
+        for file in self.files:
+            for node in ast.walk(ast.parse(file.read_text(encoding="utf-8"))):
+                self.assertNotIsInstance(node, ast.GeneratorExp, file)
 
     def test_imports_come_from_the_package_alone(self):
         for file in self.files:
