@@ -1,6 +1,6 @@
 """Keys of the steps of a program, and the steps that they reach."""
 
-from firstfault.errors import UnknownKey
+from firstfault.errors import NoCheck, UnknownKey
 from firstfault.kinds import is_name, is_number
 from firstfault.steps import steps_within
 
@@ -19,6 +19,21 @@ def step_at(program, key):
     if not has_key(program, key):
         raise UnknownKey(key)
     return steps_around(program, key)[key[1][-1]]
+
+
+def check_at(program, key):
+    """Return the check with this key; UnknownKey for any value that is no key, NoCheck for that of another step."""
+    step = step_at(program, key)
+    if step[0] != "check":
+        raise NoCheck(key)
+    return step
+
+
+def is_outside(program, key):
+    """Whether the step with this key is outside: one of the program itself, within no "repeat"."""
+    part, path = key
+    around = [step_at(program, (part, path[:k]))[0] for k in range(1, len(path), 2)]
+    return part is None and "repeat" not in around
 
 
 def has_key(program, key):

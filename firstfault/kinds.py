@@ -1,4 +1,4 @@
-"""Kinds of plain values: integers, numbers, names, states, and tuples of integers."""
+"""Kinds of plain values: integers, numbers, names, states, tuples of integers, pairs, and what is told by shape."""
 
 LETTERS = "abcdefghijklmnopqrstuvwxyz"
 LONGEST_NAME = 8
@@ -32,6 +32,16 @@ def is_state(items, thing):
 def is_integer_tuple(thing):
     """Whether any value is a tuple of integers, possibly empty."""
     return isinstance(thing, tuple) and all([is_integer(part) for part in thing])
+
+
+def is_pair(thing):
+    """Whether any value is a tuple of two."""
+    return isinstance(thing, tuple) and len(thing) == 2
+
+
+def is_integers_with_word(thing):
+    """Whether any value is a pair of a tuple of integers and a string or None, as what is told and a context are."""
+    return is_pair(thing) and is_integer_tuple(thing[0]) and (thing[1] is None or isinstance(thing[1], str))
 
 
 def is_state_set(thing):

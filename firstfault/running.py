@@ -1,7 +1,7 @@
 """Runs: what they tell, where they end, and to which steps they come with which states."""
 
-from firstfault.errors import InvalidState, NoCheck
-from firstfault.keys import all_keys, step_at
+from firstfault.errors import InvalidState
+from firstfault.keys import all_keys, check_at, step_at
 from firstfault.kinds import is_state
 from firstfault.values import holds_in, put_in, value_in
 
@@ -43,8 +43,7 @@ def arrivals(program, key):
 
 def complaints_by(program, key):
     """Return the set of the states from which runs complain by the check with this key."""
-    if step_at(program, key)[0] != "check":
-        raise NoCheck(key)
+    check_at(program, key)
     items = program[0]
     return tuple([state for state in states_of(items) if complained_by(program, state) == key])
 

@@ -131,6 +131,63 @@ def made_programs(many, seed=1):
     return [maker.program() for _ in range(many)]
 
 
+def slow_tolds(program):
+    """Return the list of what is told from each state, ascending."""
+    return [slow_run(program, state)[0] for state in all_states(program[0])]
+
+
+def slow_alike(one, other):
+    """Whether two programs tell the same from each state."""
+    return slow_tolds(one) == slow_tolds(other)
+
+
+def slow_equal(one, other):
+    """Whether two programs tell the same from each state and end the same way."""
+    return [slow_run(one, state)[:2] for state in all_states(one[0])] == [
+        slow_run(other, state)[:2] for state in all_states(other[0])]
+
+
+def rebuilt(program, turn):
+    """Return the program with the steps that turn(key, step) returns in place of each step, inner ones first."""
+    items, calls, steps = program
+    return items, tuple([(name, rebuilt_steps(name, (), own, turn)) for name, own in calls]), rebuilt_steps(
+        None, (), steps, turn)
+
+
+def rebuilt_steps(part, path, steps, turn):
+    made = ()
+    for k, step in enumerate(steps):
+        here = path + (k,)
+        if step[0] in ("if", "repeat"):
+            step = step[:2] + tuple([rebuilt_steps(part, here + (j,), own, turn) for j, own in enumerate(step[2:])])
+        made = made + turn((part, here), step)
+    return made
+
+
+def slow_dropped(program, gone):
+    """Return the program without the checks with the keys in gone."""
+    return rebuilt(program, lambda key, step: () if key in gone else (step,))
+
+
+def keys_of_checks(program):
+    """Return the list of the keys of all checks, in order."""
+    found = []
+
+    def keep(key, step):
+        found.append((key, step[0]))
+        return (step,)
+
+    rebuilt(program, keep)
+    order = [name for name, _ in program[1]] + [None]
+    return sorted([key for key, word in found if word == "check"], key=lambda key: (order.index(key[0]), key[1]))
+
+
+def with_distinct_words(program):
+    """Return the program with another word for each check."""
+    words = {key: "w" + "abcdefghijklmnop"[n] for n, key in enumerate(keys_of_checks(program))}
+    return rebuilt(program, lambda key, step: (step[:1] + (words[key],) + step[2:] if step[0] == "check" else step,))
+
+
 def within_repeats(step, many):
     """Return the step within so many others."""
     return nested(step, lambda inner: ("repeat", 1, (inner,)), many)

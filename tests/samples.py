@@ -9,6 +9,11 @@ FULL = ("check", "full", ("<", COINS, 4))
 NONE = ("check", "none", ("<", 0, COINS))
 TILL = (ITEMS, (), (FULL, ("repeat", 2, (NONE, LESS)), ("say", COINS)))
 
+# A check that no state passes, and one that each does.
+BAD = ("check", "bad", ("in", ()))
+GOOD = ("check", "good", ("<", 0, 1))
+SIX = (("a", 0, 5), ("b", 0, 5))
+
 # A program with calls, and with steps within steps in them and in the program itself.
 PAIR = (("a", -2, 2), ("b", 0, 0))
 SAY = ("say", ("*", ("item", "a"), -1))
@@ -98,6 +103,11 @@ BAD_TUPLES_OF_STEPS = (
     None, True, 0, "", "say", [], [("say", 1)], ("say", 1), (1,), (None,), ((),), ([],), (["say", 1],), (("say", True),),
     (("say", 1), 1), (("say", 1), ("say",)), ((("say", 1),),), (("call", "a"), ("call", "A")),
 )
+
+
+def coins(*steps, calls=()):
+    """A program over the coins."""
+    return ITEMS, calls, steps
 
 
 def nested(thing, wrap, many):

@@ -36,6 +36,26 @@ FUNCTIONS = {
         "trail": "(program, state)",
         "arrivals": "(program, key)", "complaints_by": "(program, key)", "unreached_keys": "(program)",
     },
+    "comparing": {
+        "are_alike": "(one, other)", "are_equal": "(one, other)", "parting_state": "(one, other, *, ends=False)",
+        "words_told": "(program)", "states_telling": "(program, word)",
+        "before": "(items, step, condition, *, calls=())", "behind": "(items, step, condition, *, calls=())",
+    },
+    "contexts": {
+        "may_put_for": "(items, calls, one, other)", "context_program": "(items, calls, steps, context)",
+        "context_paper": "(items, calls, one, other)",
+    },
+    "contextchecker": {"lets_context": "(items, calls, one, other, thing)"},
+    "alikepapers": {"alike_paper": "(one, other)"},
+    "alikechecker": {"lets_alike": "(one, other, thing)"},
+    "dropping": {
+        "checks_of": "(program)", "dropped": "(program, *keys)", "may_drop": "(program, *keys)",
+        "fewest_checks": "(program)",
+    },
+    "coming": {
+        "may_come": "(program, key, place)", "come": "(program, key, place)", "places_for": "(program, key)",
+    },
+    "comepapers": {"come_paper": "(program, key, place)"},
     "eventtexts": {"event_line": "(event)", "log_lines": "(log)"},
     "eventreadings": {"read_event": "(text)", "read_log": "(lines)"},
 }

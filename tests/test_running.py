@@ -9,21 +9,13 @@ from firstfault.running import arrivals, complained_by, complaints_by, run, stat
 from firstfault.values import holds_in
 from makers import all_states, made_programs, slow_run, within_repeats
 from samples import (
-    BIG, BOOLS, COINS, FULL, INTEGERS, ITEMS, JUNK, LESS, NAMES, NESTED, NESTED_KEYS, NONE, NO_PLACES, PAIR, PLACES,
-    STEPS,
-    TILL,
+    BAD, BIG, BOOLS, COINS, FULL, INTEGERS, ITEMS, JUNK, LESS, NAMES, NESTED, NESTED_KEYS, NONE, NO_PLACES, PAIR, PLACES,
+    SIX, STEPS, TILL, coins,
 )
 
 A, B = ("item", "a"), ("item", "b")
 SAY = ("say", COINS)
 MORE = ("set", "coins", ("+", COINS, 1))
-BAD = ("check", "bad", ("in", ()))
-SIX = (("a", 0, 5), ("b", 0, 5))
-
-
-def coins(*steps, calls=()):
-    """A program over the coins."""
-    return ITEMS, calls, steps
 
 
 class StatesTest(unittest.TestCase):
