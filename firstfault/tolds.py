@@ -53,3 +53,9 @@ def row_without(rows, gone):
 def row_with(rows, kept):
     """Return the row by which a run ends with the checks with the keys in kept alone."""
     return [row for row in rows if row[0] is None or row[0] in kept][0]
+
+
+def is_parted(rows, taken, gone):
+    """Whether a state tells something else without those gone, whichever checks but those taken are left out, too."""
+    key, told = row_without(rows, gone)
+    return (key is None or key in taken) and told != rows[0][1]

@@ -56,6 +56,13 @@ FUNCTIONS = {
         "may_come": "(program, key, place)", "come": "(program, key, place)", "places_for": "(program, key)",
     },
     "comepapers": {"come_paper": "(program, key, place)"},
+    "comechecker": {"lets_come": "(program, key, place, thing)"},
+    "droppapers": {"drop_paper": "(program)"},
+    "dropchecker": {"lets_drop": "(program, thing)"},
+    "gobehind": {"may_go_behind": "(program, key)", "gone_behind": "(program, key)"},
+    "fronting": {"may_front": "(program)", "fronted": "(program)", "fewest_at_all": "(program)"},
+    "frontpapers": {"front_paper": "(program)"},
+    "frontchecker": {"lets_front": "(program, thing)"},
     "eventtexts": {"event_line": "(event)", "log_lines": "(log)"},
     "eventreadings": {"read_event": "(text)", "read_log": "(lines)"},
 }
