@@ -2,7 +2,7 @@
 
 from firstfault.coming import check_usable, quiet_arrival
 from firstfault.errors import InvalidPaper
-from firstfault.kinds import is_pair, is_state
+from firstfault.kinds import is_pair, is_state, is_this_state
 from firstfault.running import complained_by, complaints_by
 
 
@@ -34,9 +34,9 @@ def check_rows(program, key, place, rows):
     if len(rows) != len(states):
         raise InvalidPaper("many", -1)
     for k, state in enumerate(states):
-        if not is_this_state(program, rows[k][0], state):
+        if not is_this_state(program[0], rows[k][0], state):
             raise InvalidPaper("state", k)
-        if not is_this_state(program, rows[k][1], quiet_arrival(program, state, place)):
+        if not is_this_state(program[0], rows[k][1], quiet_arrival(program, state, place)):
             raise InvalidPaper("at", k)
 
 
@@ -46,8 +46,3 @@ def check_bar(program, key, place, state):
         raise InvalidPaper("state", -1)
     if quiet_arrival(program, state, place) is not None:
         raise InvalidPaper("comes", -1)
-
-
-def is_this_state(program, thing, state):
-    """Whether any value is this very state; it is not if there is None."""
-    return is_state(program[0], thing) and thing == state

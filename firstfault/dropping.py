@@ -1,6 +1,7 @@
 """Checks that are dropped, and the fewest that leave a program alike."""
 
 from firstfault.changes import without_step
+from firstfault.choosing import fewest_sets
 from firstfault.comparing import are_alike
 from firstfault.keys import all_keys, check_at, step_at
 from firstfault.tolds import row_with, told_table
@@ -32,25 +33,11 @@ def may_drop(program, *keys):
 
 def fewest_checks(program):
     """Return all sets of keys of checks with the fewest elements that are enough to leave the program alike."""
-    keys = checks_of(program)
     table = told_table(program)
-    many = 0
-    found = []
-    # All checks are enough; so the loop ends.
-    while not found:
-        found = [kept for kept in key_sets(keys, many) if are_enough(table, kept)]
-        many = many + 1
-    return tuple(found)
+    # All checks are enough; so there is such a set.
+    return fewest_sets(checks_of(program), lambda kept: are_enough(table, kept))
 
 
 def are_enough(table, kept):
     """Whether the checks with these keys alone tell from each state what all of them do."""
     return all([row_with(rows, kept)[1] == rows[0][1] for rows in table.values()])
-
-
-def key_sets(keys, many):
-    """Return the list of all sets of so many of the keys, in the order of the tuples of their indexes."""
-    rows = [()]
-    for _ in range(many):
-        rows = [row + (k,) for row in rows for k in range(row[-1] + 1 if row else 0, len(keys))]
-    return [tuple([keys[k] for k in row]) for row in rows]

@@ -26,23 +26,35 @@ def gone_behind(program, key):
 def states_behind(program, key):
     """Return two sets of states: what the next step makes of those that come to the check, fail it, and pass it.
 
-    NoCheck if it is none; NotUsable if the next step is no "set", or there is none.
+    The errors of rows_behind.
     """
-    check = check_at(program, key)
-    put = set_behind(program, key)
-    items = program[0]
-    came = arrivals(program, key)
-    failing = {put_in(items, state, put[1], put[2]) for state in came if not holds_in(items, state, check[2])}
-    holding = {put_in(items, state, put[1], put[2]) for state in came if holds_in(items, state, check[2])}
+    rows = rows_behind(program, key)
+    failing = {later for state, later, holds in rows if not holds}
+    holding = {later for state, later, holds in rows if holds}
     return tuple(sorted(failing)), tuple(sorted(holding))
 
 
-def set_behind(program, key):
-    """Return the "set" right behind a check; NotUsable if something else is there, or nothing."""
-    later = key_behind(key)
-    if not has_key(program, later) or step_at(program, later)[0] != "set":
+def rows_behind(program, key):
+    """Return a list with a row (state, later, holds) for each state with which a run comes to the check, ascending.
+
+    later is what the next step makes of it, and holds whether it passes the check. NoCheck if the key is that of
+    another step; NotUsable if the next step is no "set", or there is none.
+    """
+    check = check_at(program, key)
+    if not is_set_behind(program, key):
         raise NotUsable("behind", -1)
-    return step_at(program, later)
+    items = program[0]
+    _, name, count = step_at(program, key_behind(key))
+    return [
+        (state, put_in(items, state, name, count), holds_in(items, state, check[2]))
+        for state in arrivals(program, key)
+    ]
+
+
+def is_set_behind(program, key):
+    """Whether the next step behind the one with this key is a "set"."""
+    later = key_behind(key)
+    return has_key(program, later) and step_at(program, later)[0] == "set"
 
 
 def key_behind(key):

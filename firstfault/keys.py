@@ -1,7 +1,7 @@
 """Keys of the steps of a program, and the steps that they reach."""
 
 from firstfault.errors import NoCheck, UnknownKey
-from firstfault.kinds import is_name, is_number
+from firstfault.kinds import is_name, is_number_tuple
 from firstfault.steps import steps_within
 
 
@@ -81,7 +81,7 @@ def is_key(thing):
     part, path = thing
     if not (part is None or is_name(part)):
         return False
-    return isinstance(path, tuple) and len(path) > 0 and all([is_number(k) for k in path])
+    return is_number_tuple(path) and len(path) > 0
 
 
 def steps_of_part(program, part):

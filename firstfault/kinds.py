@@ -29,9 +29,19 @@ def is_state(items, thing):
     return all([is_integer(thing[k]) and low <= thing[k] <= high for k, (name, low, high) in enumerate(items)])
 
 
+def is_this_state(items, thing, state):
+    """Whether any value is this very state of the items; it is not if there is None."""
+    return is_state(items, thing) and thing == state
+
+
 def is_integer_tuple(thing):
     """Whether any value is a tuple of integers, possibly empty."""
     return isinstance(thing, tuple) and all([is_integer(part) for part in thing])
+
+
+def is_number_tuple(thing):
+    """Whether any value is a tuple of numbers, possibly empty."""
+    return isinstance(thing, tuple) and all([is_number(part) for part in thing])
 
 
 def is_pair(thing):

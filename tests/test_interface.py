@@ -60,9 +60,25 @@ FUNCTIONS = {
     "droppapers": {"drop_paper": "(program)"},
     "dropchecker": {"lets_drop": "(program, thing)"},
     "gobehind": {"may_go_behind": "(program, key)", "gone_behind": "(program, key)"},
+    "behindpapers": {"behind_paper": "(program, key)"},
+    "behindchecker": {"lets_behind": "(program, key, thing)"},
     "fronting": {"may_front": "(program)", "fronted": "(program)", "fewest_at_all": "(program)"},
     "frontpapers": {"front_paper": "(program)"},
     "frontchecker": {"lets_front": "(program, thing)"},
+    "lists": {
+        "first_failing": "(items, checks, state)", "regions": "(items, checks)", "words_of_list": "(items, checks)",
+        "idle_checks": "(items, checks)", "least_list": "(items, checks)",
+    },
+    "freedoms": {"freedom": "(items, checks, k)", "may_replace": "(items, checks, k, condition)"},
+    "bounds": {
+        "fewest_bounds": "(items, fail, hold)", "bar_state": "(items, fail, hold)", "bounds_condition": "(bounds)",
+        "fewest_plain": "(items, checks, k)",
+    },
+    "keeping": {
+        "joined": "(checks)", "one_for_each_word": "(items, checks)", "is_enough": "(items, checks, kept)",
+        "fewest_kept": "(items, checks)",
+    },
+    "keeppapers": {"keep_paper": "(items, checks)"},
     "eventtexts": {"event_line": "(event)", "log_lines": "(log)"},
     "eventreadings": {"read_event": "(text)", "read_log": "(lines)"},
 }
