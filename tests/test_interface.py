@@ -79,6 +79,14 @@ FUNCTIONS = {
         "fewest_kept": "(items, checks)",
     },
     "keeppapers": {"keep_paper": "(items, checks)"},
+    "keepchecker": {"lets_keep": "(items, checks, thing)"},
+    "listpapers": {"list_paper": "(items, checks)"},
+    "listchecker": {"lets_list": "(items, checks, thing)"},
+    "orders": {
+        "must_ahead": "(items, checks)", "may_order": "(items, checks, order)", "orders": "(items, checks)",
+        "work": "(items, checks)", "least_work": "(items, checks)",
+    },
+    "replaying": {"is_log": "(thing)", "replayed": "(log)"},
     "eventtexts": {"event_line": "(event)", "log_lines": "(log)"},
     "eventreadings": {"read_event": "(text)", "read_log": "(lines)"},
 }
@@ -88,9 +96,36 @@ CLASSES = {
         "__len__": "(self)", "__iter__": "(self)", "__eq__": "(self, other)", "__str__": "(self)",
         "turned": "(self, key, step)", "less": "(self, key)", "ahead": "(self, place, step)",
     },
+    ("terms", "Count"): {
+        "__init__": "(self, expression)", "__len__": "(self)", "__eq__": "(self, other)", "__str__": "(self)",
+        "__call__": "(self, items, state)", "__add__": "(self, other)", "__sub__": "(self, other)",
+        "__mul__": "(self, other)", "__radd__": "(self, other)", "__rsub__": "(self, other)", "__rmul__": "(self, other)",
+        "parts": "(self)", "less": "(self, other)", "equals": "(self, other)", "said": "(self)", "set_to": "(self, name)",
+        "times": "(self, *steps)",
+    },
+    ("terms", "Rule"): {
+        "__init__": "(self, expression)", "__len__": "(self)", "__eq__": "(self, other)", "__str__": "(self)",
+        "__call__": "(self, items, state)", "__and__": "(self, other)", "__or__": "(self, other)", "__invert__": "(self)",
+        "parts": "(self)", "check": "(self, word)", "choose": "(self, steps, others)",
+    },
+    ("services", "Service"): {
+        "__init__": "(self, program)", "__getitem__": "(self, state)", "__contains__": "(self, key)", "__len__": "(self)",
+        "__eq__": "(self, other)", "__str__": "(self)", "__call__": "(self, event)", "put": "(self, place, step)",
+        "take": "(self, key)", "turn": "(self, key, step)", "come": "(self, key, place)", "behind": "(self, key)",
+        "drop": "(self, *keys)", "lean": "(self)", "front": "(self)", "add_call": "(self, name, steps)",
+        "go": "(self, event)", "tried": "(self, *events)", "undo": "(self)", "do_all": "(self, *events, keep=False)",
+        "counts": "(self)", "table": "(self)", "barred": "(self, event)", "parting": "(self, event)", "idle": "(self)",
+        "fewest": "(self)", "words": "(self)", "can_front": "(self)", "log": "(self)",
+    },
+    ("desk", "Desk"): {"__init__": "(self)", "say": "(self, row)", "counts": "(self)"},
 }
-PROPERTIES = {"Program": ("item_rows", "call_rows", "step_rows", "form")}
+PROPERTIES = {
+    "Program": ("item_rows", "call_rows", "step_rows", "form"), "Count": ("form",), "Rule": ("form",),
+    "Service": ("first", "program", "promise", "checks"), "Desk": (),
+}
+# Those that are called off the class, by their kinds.
 CLASS_METHODS = {"Program": {"parsed": "(cls, text)"}}
+STATIC_METHODS = {"Count": {"item": "(name)"}, "Rule": {"among": "(states)"}}
 
 
 class InterfaceTest(unittest.TestCase):
@@ -111,9 +146,10 @@ class InterfaceTest(unittest.TestCase):
             for title_of_property in PROPERTIES[title]:
                 found = vars(made)[title_of_property]
                 self.assertEqual([found.__class__, found.fset, found.fdel], [property, None, None])
-            for method, arguments in CLASS_METHODS[title].items():
-                self.assertIs(vars(made)[method].__class__, classmethod)
-                self.assertEqual(str(inspect.signature(vars(made)[method].__func__)), arguments)
+            for kind, rows in ((classmethod, CLASS_METHODS), (staticmethod, STATIC_METHODS)):
+                for method, arguments in rows.get(title, {}).items():
+                    self.assertIs(vars(made)[method].__class__, kind)
+                    self.assertEqual(str(inspect.signature(vars(made)[method].__func__)), arguments)
 
 
 class LanguageTest(unittest.TestCase):
