@@ -1,5 +1,7 @@
 """Events that are made by chance, and what becomes of them, told in another way than the package does."""
 
+import re
+
 from firstfault.changes import with_step, with_step_ahead, without_step
 from firstfault.coming import come, may_come, places_for
 from firstfault.dropping import dropped, fewest_checks
@@ -7,7 +9,7 @@ from firstfault.errors import InvalidPaper
 from firstfault.fronting import fronted
 from firstfault.gobehind import gone_behind
 from firstfault.programchecker import lets_program
-from makers import keys_of_checks, rebuilt, slow_tolds
+from makers import keys_of_checks, slow_tolds, steps_by_key
 from samples import BAD_NAMES, BAD_TUPLES_OF_STEPS, FULL, JUNK, LESS, NESTED, NO_PLACES
 
 SAY = ("say", 1)
@@ -18,15 +20,20 @@ WORDS = ("put", "take", "turn", "come", "behind", "drop", "lean", "front", "call
 # Keys by form, though keys of no program of the tests.
 FAR_KEYS = (("far", (0,)), (None, (9,)), (None, (0, 0, 0, 0, 0)), (None, (0, 1)))
 EVENTS = (
-    ("put", KEY, SAY), ("take", KEY), ("turn", KEY, SAY), ("come", KEY, (None, (1,))), ("behind", KEY), ("drop", (KEY,)),
-    ("drop", (KEY, (None, (1,)))), ("lean",), ("front",), ("call", "new", ()), ("call", "new", (SAY, ("call", "far"))),
+    ("put", KEY, SAY), ("take", KEY), ("turn", KEY, SAY), ("come", KEY, (None, (1,))), ("behind", KEY),
+    ("drop", (KEY,)), ("drop", (KEY, (None, (1,)))), ("lean",), ("front",), ("call", "new", ()),
+    ("call", "new", (SAY, ("call", "far"))),
 )
-# Values that are no keys by form.
-NO_KEYS = tuple([key for key in NO_PLACES if not (
-    isinstance(key, tuple) and len(key) == 2 and (key[0] is None or isinstance(key[0], str) and key[0].isalpha() and key[0].islower())
-    and isinstance(key[1], tuple) and key[1] and all([isinstance(k, int) and not isinstance(k, bool) and k >= 0 for k in key[1]])
-)])
 NO_STEPS = JUNK + (0, 1, ("say",), ("say", True), ("set", "A", 1), ["say", 1], ("repeat", 1, [SAY]), ("check", "x", 1), (SAY,))
+
+
+def is_key_by_form(thing):
+    """Whether any value is a pair of None or a name and a nonempty tuple of numbers."""
+    if not isinstance(thing, tuple) or len(thing) != 2 or not isinstance(thing[1], tuple) or not thing[1]:
+        return False
+    if thing[0] is not None and not (isinstance(thing[0], str) and re.fullmatch("[a-z]{1,8}", thing[0])):
+        return False
+    return all([isinstance(k, int) and not isinstance(k, bool) and k >= 0 for k in thing[1]])
 
 
 def events_out_of_kind():
@@ -35,7 +42,7 @@ def events_out_of_kind():
     for event in EVENTS:
         found.extend([event[:-1] if len(event) > 1 else (), event + (KEY,), event + (None,), list(event), event[1:], (event,)])
         found.extend([(word,) + event[1:] for word in (event[0].upper(), event[0] + "s", "", None, 0, True, (event[0],), [event[0]])])
-    for key in NO_KEYS:
+    for key in [thing for thing in NO_PLACES if not is_key_by_form(thing)]:
         found.extend([("put", key, SAY), ("take", key), ("turn", key, SAY), ("come", key, KEY), ("come", KEY, key), ("behind", key)])
         found.extend([("drop", (key,)), ("drop", (KEY, key)), ("drop", (key, KEY))])
     for keys in ((), [], [KEY], KEY, None, "", "-:0", 1, ((KEY,),)):
@@ -46,18 +53,6 @@ def events_out_of_kind():
         found.append(("call", "new", steps))
     for name in BAD_NAMES + (None, True, 1, (), ["new"], ("new",)):
         found.append(("call", name, ()))
-    return found
-
-
-def steps_by_key(program):
-    """Return a dict with the steps of all keys."""
-    found = {}
-
-    def keep(key, step):
-        found[key] = step
-        return (step,)
-
-    rebuilt(program, keep)
     return found
 
 

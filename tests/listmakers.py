@@ -18,7 +18,8 @@ GRID = (
     ("check", "a", ("=", ("item", "a"), ("item", "b"))), ("check", "c", ("in", ((1, 3), (2, 2), (2, 3)))),
 )
 LISTS = (
-    (ITEMS, ()), (ITEMS, (FULL,)), (ITEMS, (NEVER,)), (ITEMS, (ALWAYS,)), (ITEMS, LIST), (ITEMS, LIST[::-1]), (ITEMS, TWICE),
+    (ITEMS, ()), (ITEMS, (FULL,)), (ITEMS, (NEVER,)), (ITEMS, (ALWAYS,)), (ITEMS, LIST), (ITEMS, LIST[::-1]),
+    (ITEMS, TWICE),
     (ITEMS, (ALWAYS, FULL, NONE)), (ITEMS, (FULL, ALWAYS, NONE)), (ITEMS, (FULL, NEVER, FULL)), (ITEMS, EIGHT),
     (ITEMS, EIGHT[::-1]), (SIX, ()), (SIX, GRID), (SIX, GRID[::-1]), (SIX, (NEVER, GRID[3])),
 )

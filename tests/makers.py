@@ -169,17 +169,23 @@ def slow_dropped(program, gone):
     return rebuilt(program, lambda key, step: () if key in gone else (step,))
 
 
-def keys_of_checks(program):
-    """Return the list of the keys of all checks, in order."""
-    found = []
+def steps_by_key(program):
+    """Return a dict with the steps of all keys."""
+    found = {}
 
     def keep(key, step):
-        found.append((key, step[0]))
+        found[key] = step
         return (step,)
 
     rebuilt(program, keep)
+    return found
+
+
+def keys_of_checks(program):
+    """Return the list of the keys of all checks, in order."""
     order = [name for name, _ in program[1]] + [None]
-    return sorted([key for key, word in found if word == "check"], key=lambda key: (order.index(key[0]), key[1]))
+    found = [key for key, step in steps_by_key(program).items() if step[0] == "check"]
+    return sorted(found, key=lambda key: (order.index(key[0]), key[1]))
 
 
 def with_distinct_words(program):

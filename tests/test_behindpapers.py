@@ -7,7 +7,7 @@ from firstfault.behindchecker import lets_behind
 from firstfault.behindpapers import behind_paper
 from firstfault.errors import FaultError, InvalidPaper, NoCheck, NotUsable, UnknownKey
 from firstfault.gobehind import may_go_behind
-from makers import Maker, all_states, keys_of_checks, made_programs, rebuilt, slow_run, value
+from makers import Maker, all_states, keys_of_checks, made_programs, slow_run, steps_by_key, value
 from samples import (
     BAD, BIG, COINS, CONDITIONS, FULL, GOOD, INTEGERS, JUNK, LESS, NAMES, NESTED, NESTED_KEYS, NONE, NO_PLACES, PLACES,
     STEPS, TILL, coins, with_each_changed, with_wrong_length,
@@ -65,9 +65,12 @@ class LetsBehindTest(FaultCase):
         for thing in with_wrong_length(GOES) + with_wrong_length(SAME)[:1] + with_wrong_length(SAME)[2:]:
             self.check_wrong("shape", -1, thing)
         for thing in (
-            ("same", (0,)), ("same", (0,), (1,), (2,)), ["same", (0,), (1,)], ("goes", (0,), (1,)), ("goes", list(ROWS)), ("goes",),
-            ("same", ROWS), ("Goes", ROWS), ("", ROWS), (None, ROWS), (True, (0,), (1,)), ("same",), ("comes", ROWS), (ROWS, "goes"),
-            ("goes", tuple([list(row) for row in ROWS])), ("goes", ROWS[:4] + (((4,), (0,), 0),)), ("goes", {}), ("goes", "ab"),
+            ("same", (0,)), ("same", (0,), (1,), (2,)), ["same", (0,), (1,)], ("goes", (0,), (1,)),
+            ("goes", list(ROWS)), ("goes",),
+            ("same", ROWS), ("Goes", ROWS), ("", ROWS), (None, ROWS), (True, (0,), (1,)), ("same",), ("comes", ROWS),
+            (ROWS, "goes"),
+            ("goes", tuple([list(row) for row in ROWS])), ("goes", ROWS[:4] + (((4,), (0,), 0),)), ("goes", {}),
+            ("goes", "ab"),
         ):
             self.check_wrong("shape", -1, thing)
 
@@ -177,13 +180,7 @@ class ChanceTest(FaultCase):
     def rows(self):
         """Each check with a "set" behind it: (program, key, a row for each state that comes to it, ascending)."""
         for program in self.programs:
-            steps = {}
-
-            def keep(key, step):
-                steps[key] = step
-                return (step,)
-
-            rebuilt(program, keep)
+            steps = steps_by_key(program)
             for part, path in keys_of_checks(program):
                 put = steps.get((part, path[:-1] + (path[-1] + 1,)), ("none",))
                 if put[0] == "set":

@@ -12,7 +12,7 @@ from firstfault.eventtexts import event_line, log_lines
 from firstfault.programtexts import key_text, program_text
 from firstfault.services import Service
 from makers import Maker, all_states, made_programs
-from samples import BAD, COINS, FULL, GOOD, NESTED, NONE, SIX, TILL, coins
+from samples import BAD, BIG, COINS, FULL, GOOD, NESTED, NONE, SIX, TILL, coins
 from writings import EVENT_TEXTS, NO_KEYS
 
 FIRST, INNER = (None, (0,)), (None, (1, 0, 0))
@@ -20,16 +20,26 @@ TILL_ROW = "\n".join(log_lines((("service", TILL),)))
 PLAIN = ("undo", "count", "log", "program", "checks", "idle", "words", "fewest", "fronts", "table")
 # Strings that are no row at any time.
 NO_ROWS = (
-    "", " ", "\n", "-", "x", "ok", "Undo", "undo ", " undo", "undo\n", "\nundo", "undo undo", "undo 1", "count 1", "counts", "log -", "program x",
-    "checks -:0", "idles", "word", "words x", "fewest 1", "front s", "table\n", "tables", "bars", "bars ", "bars  lean", "bars x", "bars lean ",
-    "bars bars lean", "bars\nlean", "bars lean\n", "bars service", "bars undo", "parting", "parting x", "parting  lean", "parting take",
-    "parting parting lean", "told", "told ", "told x", "told -", "told 1 2", "told 1,", "told ,1", "told 01", "told +1", "told -0", "told 1.0",
-    "told 1;2", "told 1\n", "told\n1", "told  1", "told 1 ", "told (1,)", "told None", "lean ", " lean", "lean\n", "lean lean", "lean\nlean",
-    "front 1", "Lean", "take", "take ", "take -:0 -:1", "take x", "put -:0", "put -:0 x", "drop", "drop ", "come -:0", "call a", "call a 1", "call a x",
-    "service", "service 2", "service\n2", "service 3\nitem a 0 1", "service 2\nitem a 0 1\nmain\n", "service 2\nitem a 0 1\nmain\nlean",
-    "service 2\nitem a 0 1\nmain\nundo", "service 2\nitem a 0 1", "service 2\n\nitem a 0 1\nmain", "service 1\nmain", "service 0",
-    "service 2 \nitem a 0 1\nmain", "service 02\nitem a 0 1\nmain", "service x\nitem a 0 1\nmain", "service 3\nitem a 0 1\nmain\nx",
-    "service 2\nmain\nitem a 0 1", "item a 0 1\nmain", "service 3\nitem a 0 1\nmain", "service 2\nitem a 0 1\nmain ", "service 3\nitem a 0 1\nmain\nlean",
+    "", " ", "\n", "-", "x", "ok", "Undo", "undo ", " undo", "undo\n", "\nundo", "undo undo", "undo 1", "count 1",
+    "counts", "log -", "program x",
+    "checks -:0", "idles", "word", "words x", "fewest 1", "front s", "table\n", "tables", "bars", "bars ", "bars  lean",
+    "bars x", "bars lean ",
+    "bars bars lean", "bars\nlean", "bars lean\n", "bars service", "bars undo", "parting", "parting x", "parting  lean",
+    "parting take",
+    "parting parting lean", "told", "told ", "told x", "told -", "told 1 2", "told 1,", "told ,1", "told 01", "told +1",
+    "told -0", "told 1.0",
+    "told 1;2", "told 1\n", "told\n1", "told  1", "told 1 ", "told (1,)", "told None", "lean ", " lean", "lean\n",
+    "lean lean", "lean\nlean",
+    "front 1", "Lean", "take", "take ", "take -:0 -:1", "take x", "put -:0", "put -:0 x", "drop", "drop ", "come -:0",
+    "call a", "call a 1", "call a x",
+    "service", "service 2", "service\n2", "service 3\nitem a 0 1", "service 2\nitem a 0 1\nmain\n",
+    "service 2\nitem a 0 1\nmain\nlean",
+    "service 2\nitem a 0 1\nmain\nundo", "service 2\nitem a 0 1", "service 2\n\nitem a 0 1\nmain", "service 1\nmain",
+    "service 0",
+    "service 2 \nitem a 0 1\nmain", "service 02\nitem a 0 1\nmain", "service x\nitem a 0 1\nmain",
+    "service 3\nitem a 0 1\nmain\nx",
+    "service 2\nmain\nitem a 0 1", "item a 0 1\nmain", "service 3\nitem a 0 1\nmain", "service 2\nitem a 0 1\nmain ",
+    "service 3\nitem a 0 1\nmain\nlean",
     " service 2\nitem a 0 1\nmain", "service 2\nitem a 0 1\nsay 1",
 )
 
@@ -93,7 +103,8 @@ class ServiceTest(DeskCase):
         desk = desk_with(("front",))
         told = self.look(desk)
         for row, error in (
-            ("service 2\nitem a 1 0\nmain", InvalidPaper("item", 0)), ("service 3\nitem a 0 1\nmain\ncall a", InvalidPaper("name", FIRST)),
+            ("service 2\nitem a 1 0\nmain", InvalidPaper("item", 0)),
+            ("service 3\nitem a 0 1\nmain\ncall a", InvalidPaper("name", FIRST)),
             ("service 4\nitem a 0 1\npart b\npart b\nmain", InvalidPaper("call", 1)),
             ("service 3\nitem a 0 1\nmain\nsay item b", InvalidPaper("part", FIRST)),
             ("service 5\nitem a 0 1\npart b\npart c\npart d\nmain", NotUsable("many", -1)),
@@ -109,19 +120,24 @@ class EventTest(DeskCase):
     def test_events(self):
         desk = desk_with()
         self.check_answers(
-            desk, ("put -:2 check good < 0 1", "3"), ("come -:1.0.0 -:0", "3"), ("call a 1 check bad in -", "4"), ("lean", "2"), ("front", "2"),
+            desk, ("put -:2 check good < 0 1", "3"), ("come -:1.0.0 -:0", "3"), ("call a 1 check bad in -", "4"),
+            ("lean", "2"), ("front", "2"),
             ("turn -:3 say + item coins 0", "2"), ("count", "6"),
-            ("log", "put -:2 check good < 0 1 / come -:1.0.0 -:0 / call a 1 check bad in - / lean / front / turn -:3 say + item coins 0"),
-            ("undo", "turn -:3 say + item coins 0"), ("undo", "front"), ("undo", "lean"), ("count", "3"), ("take a:0", "3"), ("count", "4"),
+            ("log", "put -:2 check good < 0 1 / come -:1.0.0 -:0 / call a 1 check bad in - / lean / front / "
+                    "turn -:3 say + item coins 0"),
+            ("undo", "turn -:3 say + item coins 0"), ("undo", "front"), ("undo", "lean"), ("count", "3"),
+            ("take a:0", "3"), ("count", "4"),
         )
 
     def test_events_that_are_not_possible(self):
         desk = desk_with()
         told = self.look(desk)
         for row, event, reason in (
-            ("take -:0", ("take", FIRST), "parts"), ("take -:9", ("take", (None, (9,))), "key"), ("lean", ("lean",), "same"),
+            ("take -:0", ("take", FIRST), "parts"), ("take -:9", ("take", (None, (9,))), "key"),
+            ("lean", ("lean",), "same"),
             ("behind -:1.0.0", ("behind", INNER), "may"), ("drop -:1", ("drop", ((None, (1,)),)), "check"),
-            ("put far:0 say 1", ("put", ("far", (0,)), SAY), "place"), ("put -:0 call far", ("put", FIRST, ("call", "far")), "program"),
+            ("put far:0 say 1", ("put", ("far", (0,)), SAY), "place"),
+            ("put -:0 call far", ("put", FIRST, ("call", "far")), "program"),
         ):
             with self.assertRaises(InvalidEvent) as caught:
                 desk.say(row)
@@ -133,7 +149,8 @@ class EventTest(DeskCase):
     def test_bars(self):
         desk = desk_with()
         self.check_answers(
-            desk, ("bars front", "-"), ("bars lean", "same"), ("bars come -:1.0.0 -:0", "-"), ("bars take -:0", "parts"),
+            desk, ("bars front", "-"), ("bars lean", "same"), ("bars come -:1.0.0 -:0", "-"),
+            ("bars take -:0", "parts"),
             ("bars drop -:0 -:0", "key"), ("bars call a 0", "-"), ("bars call a 1 call a", "program"), ("count", "0"),
         )
         desk.say("call a 0")
@@ -145,7 +162,8 @@ class EventTest(DeskCase):
     def test_parting(self):
         desk = desk_with()
         self.check_answers(
-            desk, ("parting front", "-"), ("parting take -:0", "4"), ("parting take -:1.0.0", "0"), ("parting drop -:0 -:1.0.0", "0"),
+            desk, ("parting front", "-"), ("parting take -:0", "4"), ("parting take -:1.0.0", "0"),
+            ("parting drop -:0 -:1.0.0", "0"),
             ("parting turn -:2 say 1", "2"),
         )
         with self.assertRaises(InvalidEvent) as caught:
@@ -175,21 +193,25 @@ class AskingTest(DeskCase):
 
     def test_told_of_what_is_no_state(self):
         desk = desk_with()
-        for row, state in (("told 5", (5,)), ("told -1", (-1,)), ("told 1,1", (1, 1)), ("told 0,0,0", (0, 0, 0)), ("told " + "9" * 60, (int("9" * 60),))):
+        for text, state in (("5", (5,)), ("-1", (-1,)), ("1,1", (1, 1)), ("0,0,0", (0, 0, 0)), ("9" * 60, (BIG,))):
             with self.assertRaises(InvalidState) as caught:
-                desk.say(row)
+                desk.say(f"told {text}")
             self.check_same(caught.exception.state, state)
         self.check_no_row(desk, "told " + "9" * 61)
 
     def test_undo_count_and_log(self):
         desk = desk_with()
         self.check_fault(NothingToUndo(0), desk.say, "undo")
-        self.check_answers(desk, ("count", "0"), ("log", "-"), ("front", "2"), ("count", "1"), ("log", "front"), ("undo", "front"), ("log", "-"))
+        self.check_answers(desk, ("count", "0"), ("log", "-"), ("front", "2"), ("count", "1"), ("log", "front"))
+        self.check_answers(desk, ("undo", "front"), ("count", "0"), ("log", "-"))
         self.check_fault(NothingToUndo(0), desk.say, "undo")
 
     def test_program(self):
-        due = "item coins 0 4 / main / check full < item coins 4 / repeat 2 2 check none < 0 item coins set coins - item coins 1 / say item coins"
-        self.check_same(desk_with().say("program"), due)
+        lines = [
+            "item coins 0 4", "main", "check full < item coins 4",
+            "repeat 2 2 check none < 0 item coins set coins - item coins 1", "say item coins",
+        ]
+        self.check_same(desk_with().say("program"), " / ".join(lines))
         self.check_same(desk_with(program=coins()).say("program"), "item coins 0 4 / main")
         program = coins(calls=(("a", ()), ("b", (SAY,))))
         self.check_same(desk_with(program=program).say("program"), "item coins 0 4 / part a / part b / say 1 / main")
@@ -253,7 +275,10 @@ class CountsTest(DeskCase):
     def test_counts(self):
         desk = Desk()
         self.check_same(desk.counts(), (0, 0))
-        rows = ("x", "count", TILL_ROW, "count", "lean", "front", "undo", "undo", "told 9", "told 1", "bars lean", "parting lean", "", "service 2\nitem a 1 0\nmain")
+        rows = (
+            "x", "count", TILL_ROW, "count", "lean", "front", "undo", "undo", "told 9", "told 1", "bars lean", "parting lean", "",
+            "service 2\nitem a 1 0\nmain",
+        )
         for k, row in enumerate(rows):
             try:
                 desk.say(row=row)
@@ -288,9 +313,11 @@ class ChanceTest(DeskCase):
 
     def check_state(self, desk, service):
         self.check_answers(
-            desk, ("count", str(len(service))), ("log", str(service)), ("program", program_text(service.program).replace("\n", " / ")),
+            desk, ("count", str(len(service))), ("log", str(service)),
+            ("program", program_text(service.program).replace("\n", " / ")),
             ("checks", " ".join([key_text(key) for key in service.checks]) or "-"),
-            ("idle", " ".join([key_text(key) for key in service.idle()]) or "-"), ("words", " ".join(service.words()) or "-"),
+            ("idle", " ".join([key_text(key) for key in service.idle()]) or "-"),
+            ("words", " ".join(service.words()) or "-"),
             ("fewest", " ".join([",".join([key_text(key) for key in row]) or "-" for row in service.fewest()])),
             ("fronts", "yes" if service.can_front() else "no"), ("table", " / ".join(service.table()) or "-"),
         )

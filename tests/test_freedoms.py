@@ -6,7 +6,8 @@ from faultcases import FaultCase
 from firstfault.errors import NotUsable, UnfitPart
 from firstfault.freedoms import freedom, may_replace
 from listmakers import (
-    ALWAYS, EIGHT, GRID, LIST, LISTS, NEVER, TWICE, UNDER, made_lists, slow_failing, slow_region, slow_words, with_other_words,
+    ALWAYS, EIGHT, GRID, LIST, LISTS, NEVER, TWICE, UNDER, made_lists, slow_failing, slow_region, slow_words,
+    with_other_words,
 )
 from makers import Maker, all_states, value
 from samples import BIG, BOOLS, COINS, CONDITIONS, COUNTS, FULL, INTEGERS, ITEMS, JUNK, NAMES, NONE, SIX, STEPS

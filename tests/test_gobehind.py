@@ -8,7 +8,8 @@ from firstfault.errors import NoCheck, NotUsable, UnknownKey
 from firstfault.gobehind import gone_behind, may_go_behind
 from firstfault.programchecker import lets_program
 from makers import (
-    Maker, all_states, keys_of_checks, made_programs, rebuilt, slow_equal, slow_run, value, with_distinct_words,
+    Maker, all_states, keys_of_checks, made_programs, rebuilt, slow_equal, slow_run, steps_by_key, value,
+    with_distinct_words,
 )
 from samples import (
     BAD, COINS, FULL, GOOD, INTEGERS, ITEMS, JUNK, LESS, NAMES, NESTED, NESTED_KEYS, NO_PLACES, NONE, PLACES, SIX, STEPS,
@@ -161,20 +162,10 @@ class ChanceTest(FaultCase):
             pair = ("check", "w", maker.condition(2)), ("set", maker.chance.choice(items)[0], maker.number(1))
             self.programs.append((items, calls, steps[:1] + pair + (("repeat", 2, pair[::-1] + pair),) + steps[1:]))
 
-    def steps_of(self, program):
-        found = {}
-
-        def keep(key, step):
-            found[key] = step
-            return (step,)
-
-        rebuilt(program, keep)
-        return found
-
     def pairs(self):
         """Each check that has a "set" right behind it, as (program, key, check, key of the "set", "set")."""
         for program in self.programs:
-            steps = self.steps_of(program)
+            steps = steps_by_key(program)
             for part, path in keys_of_checks(program):
                 later = (part, path[:-1] + (path[-1] + 1,))
                 if steps.get(later, ("none",))[0] == "set":

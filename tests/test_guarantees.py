@@ -2,7 +2,7 @@
 
 import unittest
 
-from eventmakers import SMALL, made_event, places_of, servable, steps_by_key
+from eventmakers import SMALL, made_event, places_of, servable
 from faultcases import FaultCase
 from firstfault.alikechecker import lets_alike
 from firstfault.alikepapers import alike_paper
@@ -19,7 +19,9 @@ from firstfault.replaying import replayed
 from firstfault.running import complaints_by, run
 from firstfault.services import Service
 from listmakers import index_sets, made_lists
-from makers import Maker, all_states, keys_of_checks, made_programs, slow_dropped, slow_equal, slow_run, slow_tolds
+from makers import (
+    Maker, all_states, keys_of_checks, made_programs, slow_dropped, slow_equal, slow_run, slow_tolds, steps_by_key,
+)
 from samples import BAD, COINS, FULL, GOOD, ITEMS, LESS, NONE, TILL, coins
 
 FIRST = (None, (0,))
@@ -51,11 +53,16 @@ class PromiseTest(LiveCase):
         service = Service(coins(NONE, MORE, ("repeat", 1, (FULL, LESS)), SAY))
         promise = [run(service.first, state)[0] for state in all_states(ITEMS)]
         events = [
-            ("behind", FIRST), ("put", (None, (3,)), GOOD), ("put", FIRST, ("repeat", 0, (BAD,))), ("come", (None, (3, 0, 0)), (None, (1,))),
-            ("come", (None, (3,)), (None, (1,))), ("turn", (None, (0,)), ("repeat", -1, ())), ("turn", (None, (3,)), MORE), ("call", "a", (BAD, LESS)),
-            ("put", ("a", (1,)), BAD), ("lean",), ("front",), ("drop", (("a", (0,)),)), ("take", FIRST), ("call", "b", (("call", "a"),)),
-            ("put", FIRST, GOOD), ("front",), ("put", FIRST, GOOD), ("lean",), ("take", ("a", (0,))), ("put", (None, (2,)), GOOD),
-            ("drop", ((None, (2,)),)), ("put", (None, (1,)), GOOD), ("turn", (None, (1,)), ("check", "b", ("=", 1, 1))), ("lean",),
+            ("behind", FIRST), ("put", (None, (3,)), GOOD), ("put", FIRST, ("repeat", 0, (BAD,))),
+            ("come", (None, (3, 0, 0)), (None, (1,))),
+            ("come", (None, (3,)), (None, (1,))), ("turn", (None, (0,)), ("repeat", -1, ())),
+            ("turn", (None, (3,)), MORE), ("call", "a", (BAD, LESS)),
+            ("put", ("a", (1,)), BAD), ("lean",), ("front",), ("drop", (("a", (0,)),)), ("take", FIRST),
+            ("call", "b", (("call", "a"),)),
+            ("put", FIRST, GOOD), ("front",), ("put", FIRST, GOOD), ("lean",), ("take", ("a", (0,))),
+            ("put", (None, (2,)), GOOD),
+            ("drop", ((None, (2,)),)), ("put", (None, (1,)), GOOD), ("turn", (None, (1,)), ("check", "b", ("=", 1, 1))),
+            ("lean",),
         ]
         done = {}
         for event in events:

@@ -131,12 +131,14 @@ class PossibleTest(HappeningCase):
     def test_front(self):
         self.check_happens(TILL, ("front",), fronted(TILL))
         self.check_happens(coins(), ("front",), coins())
-        self.check_happens(coins(LESS, FULL, ("set", "coins", 0), BAD), ("front",), fronted(coins(LESS, FULL, ("set", "coins", 0), BAD)))
+        program = coins(LESS, FULL, ("set", "coins", 0), BAD)
+        self.check_happens(program, ("front",), fronted(program))
 
     def test_call(self):
         self.check_happens(TILL, ("call", "a", (BAD, LESS)), coins(*TILL[2], calls=(("a", (BAD, LESS)),)))
         program = coins(("call", "b"), calls=(("b", (SAY,)),))
-        self.check_happens(program, ("call", "a", (("call", "b"),)), coins(("call", "b"), calls=(("b", (SAY,)), ("a", (("call", "b"),)))))
+        due = coins(("call", "b"), calls=(("b", (SAY,)), ("a", (("call", "b"),))))
+        self.check_happens(program, ("call", "a", (("call", "b"),)), due)
         self.check_happens(program, ("call", "c", ()), coins(("call", "b"), calls=(("b", (SAY,)), ("c", ()))))
 
 
@@ -200,8 +202,10 @@ class BarredTest(HappeningCase):
         calls = (("a", (SAY,)), ("b", ()))
         program = coins(GOOD, calls=calls)
         # Also where it would be too great.
-        for step in (("call", "far"), ("set", "far", 1), ("say", ("item", "far")), ("check", "x", ("in", ((9,),))), ("repeat", 1, (("call", "c"),)),
-                     ("repeat", 1, (FULL,) * 20 + (("call", "c"),))):
+        for step in (
+            ("call", "far"), ("set", "far", 1), ("say", ("item", "far")), ("check", "x", ("in", ((9,),))),
+            ("repeat", 1, (("call", "c"),)), ("repeat", 1, (FULL,) * 20 + (("call", "c"),)),
+        ):
             self.check_barred(program, ("put", FIRST, step), "program")
             self.check_barred(program, ("turn", FIRST, step), "program")
             self.check_barred(program, ("put", ("a", (1,)), step), "program")
@@ -252,9 +256,12 @@ class BarredTest(HappeningCase):
 
     def test_parts(self):
         for event, state in (
-            (("put", FIRST, SAY), (0,)), (("put", FIRST, ("check", "a", ("<", COINS, 3))), (3,)), (("put", FIRST, LESS), (2,)),
-            (("put", (None, (3,)), SAY), (2,)), (("take", FIRST), (4,)), (("take", INNER), (0,)), (("take", SECOND), (0,)),
-            (("take", THIRD), (2,)), (("turn", FIRST, NOTHING), (4,)), (("turn", INNER, FULL), (0,)), (("turn", THIRD, SAY), (2,)),
+            (("put", FIRST, SAY), (0,)), (("put", FIRST, ("check", "a", ("<", COINS, 3))), (3,)),
+            (("put", FIRST, LESS), (2,)),
+            (("put", (None, (3,)), SAY), (2,)), (("take", FIRST), (4,)), (("take", INNER), (0,)),
+            (("take", SECOND), (0,)),
+            (("take", THIRD), (2,)), (("turn", FIRST, NOTHING), (4,)), (("turn", INNER, FULL), (0,)),
+            (("turn", THIRD, SAY), (2,)),
             (("drop", (FIRST,)), (4,)), (("drop", (FIRST, INNER)), (0,)), (("drop", (INNER, FIRST)), (0,)),
         ):
             self.check_barred(TILL, event, "parts")
@@ -274,7 +281,9 @@ class BarredTest(HappeningCase):
         service.do_all(*[("turn", FIRST, FULL)] * 40)
         self.assertEqual(service.barred(None), "shape")
         self.assertEqual(service.barred(("drop", ())), "shape")
-        for event in EVENTS + (("take", (None, (9,))), ("put", (None, (9,)), SAY), ("turn", FIRST, FULL), ("call", "a", (("call", "b"),))):
+        for event in EVENTS + (
+            ("take", (None, (9,))), ("put", (None, (9,)), SAY), ("turn", FIRST, FULL), ("call", "a", (("call", "b"),)),
+        ):
             self.check_same(service.barred(event), "full")
             with self.assertRaises(InvalidEvent) as caught:
                 service.parting(event)
@@ -311,7 +320,8 @@ class ChanceTest(HappeningCase):
                     self.check_same([caught.exception.event, caught.exception.reason], [event, reason])
                     self.check_same([service.program, len(service)], [present, many])
         due = [("put", "place"), ("put", "parts"), ("take", "key"), ("take", "parts"), ("turn", "key"), ("turn", "parts"),
-               ("come", "key"), ("come", "check"), ("come", "place"), ("come", "may"), ("behind", "place"), ("drop", "key"),
+               ("come", "key"), ("come", "check"), ("come", "place"), ("come", "may"), ("behind", "place"),
+               ("drop", "key"),
                ("drop", "parts"), ("lean", "same"), ("front", "may"), ("call", "name"), ("call", "many"), ("put", "many")]
         self.assertEqual([row for row in due if row not in found], [])
         words = ("put", "take", "turn", "come", "behind", "drop", "lean", "front", "call")

@@ -73,11 +73,15 @@ class LetsKeepTest(FaultCase):
 
     def test_shape_of_a_node(self):
         for node in (
-            (), ("state",), ("state", 3), ("state", [3]), ("state", (True,)), ("state", ("3",)), ("state", (None,)), ("state", (3,), 0),
-            ["state", (3,)], ("State", (3,)), (None, (3,)), ("state", ((3,),)), ("both", 0, None), ("both", 0, None, None, None),
+            (), ("state",), ("state", 3), ("state", [3]), ("state", (True,)), ("state", ("3",)), ("state", (None,)),
+            ("state", (3,), 0),
+            ["state", (3,)], ("State", (3,)), (None, (3,)), ("state", ((3,),)), ("both", 0, None),
+            ("both", 0, None, None, None),
             ("both", -1, None, None), ("both", True, None, None), ("both", "0", None, None), ("both", None, None, None),
-            ["both", 0, None, None], ("both", 0, (), None), ("both", 0, None, 0), ("check", 0, None, None), ("both", (0,), None, None),
-            ("both", 0, None, ["state", (3,)]), ("state", 0, None, None), ("both", (3,)), (("state",), (3,)), False, "", 0,
+            ["both", 0, None, None], ("both", 0, (), None), ("both", 0, None, 0), ("check", 0, None, None),
+            ("both", (0,), None, None),
+            ("both", 0, None, ["state", (3,)]), ("state", 0, None, None), ("both", (3,)), (("state",), (3,)), False, "",
+            0,
         ):
             for tree in (node, TREE[:2] + (node, TREE[3]), TREE[:3] + (node,), TREE[:3] + (TREE[3][:3] + (node,),)):
                 self.check_wrong("shape", -1, ((0,), tree))

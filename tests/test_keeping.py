@@ -107,7 +107,8 @@ class IsEnoughTest(FaultCase):
                 self.check_fault(NotUsable("kept", -1), is_enough, ITEMS, (), kept)
         for kept in (
             (1, 0), (0, 0), (0, 1, 1), (0, 2, 1), (4,), (0, 4), (BIG,), (-1,), (-1, 0), (0, True), (False,), (False, 1),
-            (True,), [0], [0, 1], [], ("0",), ((0,),), (0, None), (None,), {}, (0, [1]), "01", range(2), (0, "1"), (0, (1,)),
+            (True,), [0], [0, 1], [], ("0",), ((0,),), (0, None), (None,), {}, (0, [1]), "01", range(2), (0, "1"),
+            (0, (1,)),
         ):
             self.check_fault(NotUsable("kept", -1), is_enough, ITEMS, LIST, kept)
         self.check_fault(NotUsable("kept", -1), is_enough, ITEMS, (), (0,))

@@ -126,7 +126,8 @@ class LetsListTest(FaultCase):
 
     def test_entries_of_the_other_kind(self):
         for k in range(3):
-            self.check_wrong("rows" if k else "ahead", k if k else (0, 0), PAPER[:k] + (("idle", (0,) if k == 0 else ()),) + PAPER[k + 1:])
+            row, fault, at = ((0,), "ahead", (0, 0)) if k == 0 else ((), "rows", k)
+            self.check_wrong(fault, at, PAPER[:k] + (("idle", row),) + PAPER[k + 1:])
         self.check_wrong("state", 3, PAPER[:3] + (("first", (0,)),))
         self.check_wrong("state", 1, TWICE_PAPER[:1] + (("first", (3,)),) + TWICE_PAPER[2:], ITEMS, TWICE)
 

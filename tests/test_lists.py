@@ -6,7 +6,8 @@ from faultcases import FaultCase
 from firstfault.errors import InvalidState
 from firstfault.lists import first_failing, idle_checks, least_list, regions, words_of_list
 from listmakers import (
-    ALWAYS, EIGHT, GRID, LIST, LISTS, LOW, NEVER, TWICE, ZERO, index_sets, made_lists, slow_failing, slow_region, slow_words,
+    ALWAYS, EIGHT, GRID, LIST, LISTS, LOW, NEVER, TWICE, ZERO, index_sets, made_lists, slow_failing, slow_region,
+    slow_words,
     some_of, with_other_words,
 )
 from makers import all_states

@@ -9,7 +9,8 @@ from firstfault.errors import NotUsable
 from firstfault.lists import least_list
 from firstfault.orders import least_work, may_order, must_ahead, orders, work
 from listmakers import (
-    ALWAYS, EIGHT, GRID, LIST, LISTS, NEVER, TWICE, made_lists, slow_failing, slow_region, slow_words, some_of, with_other_words,
+    ALWAYS, EIGHT, GRID, LIST, LISTS, NEVER, TWICE, made_lists, slow_failing, slow_region, slow_words, some_of,
+    with_other_words,
 )
 from makers import all_states
 from samples import BIG, BOOLS, CONDITIONS, FULL, INTEGERS, ITEMS, JUNK, NAMES, NONE, SIX, STEPS
@@ -70,8 +71,10 @@ class MayOrderTest(FaultCase):
             if order != ():
                 self.check_fault(NotUsable("order", -1), may_order, ITEMS, (), order)
         for order in (
-            (0, 1, 2), (0, 1, 2, 2), (0, 1, 2, 4), (1, 2, 3, 4), (0, 1, 2, 3, 4), (0, 1, 2, 3, 3), (-1, 0, 1, 2), (0, 1, 2, -1),
-            [0, 1, 2, 3], (0, True, 2, 3), (False, 1, 2, 3), (0, "1", 2, 3), (0, None, 2, 3), ((0, 1, 2, 3),), (0, 1, 2, BIG),
+            (0, 1, 2), (0, 1, 2, 2), (0, 1, 2, 4), (1, 2, 3, 4), (0, 1, 2, 3, 4), (0, 1, 2, 3, 3), (-1, 0, 1, 2),
+            (0, 1, 2, -1),
+            [0, 1, 2, 3], (0, True, 2, 3), (False, 1, 2, 3), (0, "1", 2, 3), (0, None, 2, 3), ((0, 1, 2, 3),),
+            (0, 1, 2, BIG),
             (0, (1,), 2, 3), (0, [1], 2, 3), "0123", (1, True, 2, 3), range(4), {0: 0},
         ):
             self.check_fault(NotUsable("order", -1), may_order, ITEMS, LIST, order)

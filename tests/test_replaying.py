@@ -57,10 +57,14 @@ class IsLogTest(FaultCase):
 
     def test_values_near_to_logs(self):
         for thing in JUNK + INTEGERS + NAMES + STEPS + EVENTS + (
-            TILL, FRONT, Service(TILL), Program(ITEMS, ()), {}, list(LOG), LOG[1:], LOG[::-1], (TILL,), ("service",), ("service", TILL),
-            (list(FRONT),), (FRONT + ((),),), (FRONT[:1],), (("Service", TILL),), (("", TILL),), ((None, TILL),), ((True, TILL),),
-            ((("service",), TILL),), ((TILL, "service"),), (("service", list(TILL)),), (FRONT, FRONT), (FRONT, TILL), (FRONT, None),
-            (("service", Program(ITEMS, ())),), (["service", TILL],), (FRONT, ()), LOG + ([],), LOG[:2] + (list(LOG[2]),) + LOG[3:],
+            TILL, FRONT, Service(TILL), Program(ITEMS, ()), {}, list(LOG), LOG[1:], LOG[::-1], (TILL,), ("service",),
+            ("service", TILL),
+            (list(FRONT),), (FRONT + ((),),), (FRONT[:1],), (("Service", TILL),), (("", TILL),), ((None, TILL),),
+            ((True, TILL),),
+            ((("service",), TILL),), ((TILL, "service"),), (("service", list(TILL)),), (FRONT, FRONT), (FRONT, TILL),
+            (FRONT, None),
+            (("service", Program(ITEMS, ())),), (["service", TILL],), (FRONT, ()), LOG + ([],),
+            LOG[:2] + (list(LOG[2]),) + LOG[3:],
         ):
             self.assertIs(is_log(thing), False, thing)
 

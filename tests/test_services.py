@@ -69,11 +69,16 @@ class MakingTest(ServiceCase):
 
     def test_programs_that_are_too_great(self):
         calls = (("a", (SAY, SAY)), ("b", ()))
-        for program in (coins(*[NOTHING] * 14), coins(*[NOTHING] * 12, calls=calls), coins(*[GOOD] * 8), coins(*[GOOD] * 7, calls=(("a", (BAD,)),)),
-                        coins(calls=calls), coins(("repeat", 1, (SAY,) * 13))):
+        for program in (
+            coins(*[NOTHING] * 14), coins(*[NOTHING] * 12, calls=calls), coins(*[GOOD] * 8),
+            coins(*[GOOD] * 7, calls=(("a", (BAD,)),)), coins(calls=calls), coins(("repeat", 1, (SAY,) * 13)),
+        ):
             self.check_same(Service(program).program, program)
-        for program in (coins(*[NOTHING] * 15), coins(*[NOTHING] * 13, calls=calls), coins(*[GOOD] * 9), coins(*[GOOD] * 8, calls=(("a", (BAD,)),)),
-                        coins(calls=calls + (("c", ()),)), coins(("repeat", 1, (SAY,) * 14)), coins(*[FULL] * 30)):
+        for program in (
+            coins(*[NOTHING] * 15), coins(*[NOTHING] * 13, calls=calls), coins(*[GOOD] * 9),
+            coins(*[GOOD] * 8, calls=(("a", (BAD,)),)), coins(calls=calls + (("c", ()),)), coins(("repeat", 1, (SAY,) * 14)),
+            coins(*[FULL] * 30),
+        ):
             self.check_fault(NotUsable("many", -1), Service, program)
         # The errors of the checker come first.
         self.check_fault(InvalidPaper("name", (None, (20,))), Service, coins(*[NOTHING] * 20, ("call", "a")))
@@ -116,7 +121,8 @@ class MethodsTest(ServiceCase):
         for name, given, event, program in self.calls():
             due = Service(program).tried(event)
             service, other, third, fourth = [Service(program) for _ in range(4)]
-            answers = [getattr(service, name)(*given.values()), getattr(other, name)(**given), third.go(event=event), fourth(event=event)]
+            answers = [getattr(service, name)(*given.values()), getattr(other, name)(**given)]
+            answers = answers + [third.go(event=event), fourth(event=event)]
             self.check_same(answers, [len(keys_of_checks(due))] * 4)
             for one in (service, other, third, fourth):
                 self.check_same([one.program, one.log(), one.counts()], [due, (("service", program), event), (1, 1)])
@@ -307,7 +313,9 @@ class SeveralTest(ServiceCase):
         events = [PUT, COME, ("call", "a", (BAD,)), ("front",)]
         for before in ((), (SAME,), (SAME, SAME)):
             for k in range(5):
-                for wrong, reason in ((None, "shape"), (("drop", (("far", (0,)),)), "key"), (("turn", FIRST, ("call", "far")), "program")):
+                for wrong, reason in (
+                    (None, "shape"), (("drop", (("far", (0,)),)), "key"), (("turn", FIRST, ("call", "far")), "program"),
+                ):
                     service = Service(TILL)
                     service.do_all(*before)
                     told = self.look(service)
@@ -337,12 +345,15 @@ class CountsTest(ServiceCase):
         service = Service(TILL)
         self.check_same(service.counts(), (0, 0))
         calls = [
-            lambda: service.put(THIRD, GOOD), lambda: service.take(THIRD), lambda: service.turn(FIRST, FULL), lambda: service.come(INNER, FIRST),
+            lambda: service.put(THIRD, GOOD), lambda: service.take(THIRD), lambda: service.turn(FIRST, FULL),
+            lambda: service.come(INNER, FIRST),
             lambda: service.behind(FIRST), lambda: service.drop(FIRST), lambda: service.lean(), lambda: service.front(),
             lambda: service.add_call("a", ()), lambda: service.go(SAME), lambda: service(SAME), lambda: service.undo(),
             lambda: service.do_all(), lambda: service.do_all(SAME, SAME, SAME), lambda: service.do_all(SAME, None),
-            lambda: service.do_all(SAME, None, keep=True), lambda: service.go(None), lambda: service(None), lambda: service.drop(),
-            lambda: service.put(None, None), lambda: service.take(None), lambda: service.turn(None, None), lambda: service.come(None, None),
+            lambda: service.do_all(SAME, None, keep=True), lambda: service.go(None), lambda: service(None),
+            lambda: service.drop(),
+            lambda: service.put(None, None), lambda: service.take(None), lambda: service.turn(None, None),
+            lambda: service.come(None, None),
             lambda: service.behind(None), lambda: service.add_call(None, None),
         ]
         for k, call in enumerate(calls):
@@ -373,8 +384,10 @@ class RefusedTest(ServiceCase):
         service.do_all(PUT, ("call", "a", (BAD,)))
         told = self.look(service)
         for event in (
-            None, ("take", ("far", (0,))), ("behind", (None, (3,))), ("put", ("far", (0,)), SAY), ("come", INNER, (None, (3,))),
-            ("behind", INNER), ("call", "a", ()), ("put", FIRST, ("call", "far")), ("put", FIRST, ("repeat", 0, (SAY,) * 8)), WRONG,
+            None, ("take", ("far", (0,))), ("behind", (None, (3,))), ("put", ("far", (0,)), SAY),
+            ("come", INNER, (None, (3,))),
+            ("behind", INNER), ("call", "a", ()), ("put", FIRST, ("call", "far")),
+            ("put", FIRST, ("repeat", 0, (SAY,) * 8)), WRONG,
             ("turn", FIRST, SAY), ("drop", (FIRST, INNER)),
         ):
             self.assertNotEqual(service.barred(event), None)
@@ -392,7 +405,8 @@ class TableTest(ServiceCase):
         checks = [("check", "abcdefgh"[:k], ("not", ("in", ()))) for k in range(1, 9)]
         due = [("abcdefgh"[:k] + " " * 8)[:8] + f"  0 -:{k - 1}" for k in range(1, 9)]
         self.check_same(Service(coins(*checks)).table(), due)
-        program = (SIX, (("a", (BAD,)),), (("check", "x", ("=", ("item", "a"), 1)), ("call", "a"), BAD, ("if", FULL[2][:1] + (1, 1), (), (BAD,))))
+        steps = (("check", "x", ("=", ("item", "a"), 1)), ("call", "a"), BAD, ("if", ("<", 1, 1), (), (BAD,)))
+        program = (SIX, (("a", (BAD,)),), steps)
         due = ["bad       6 a:0", "x        30 -:0", "bad       0 -:2", "bad       0 -:3.1.0"]
         self.check_same(Service(program).table(), due)
         self.check_same(Service((SIX, (), (("check", "abcdefgh", ("in", ())),))).table(), ["abcdefgh 36 -:0"])

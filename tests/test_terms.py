@@ -10,7 +10,8 @@ from firstfault.programtexts import expression_text
 from firstfault.terms import Count, Rule
 from makers import Maker, all_states, value
 from samples import (
-    BAD_NAMES, BAD_STATE_SETS, BIG, BOOLS, COINS, CONDITIONS, COUNTS, INTEGERS, ITEMS, JUNK, LESS, NAMES, SIX, STATE_SETS, STEPS,
+    BAD_NAMES, BAD_STATE_SETS, BIG, BOOLS, COINS, CONDITIONS, COUNTS, INTEGERS, ITEMS, JUNK, LESS, NAMES, SIX,
+    STATE_SETS, STEPS,
 )
 
 coins = Count.item("coins")
@@ -202,7 +203,8 @@ class SignsTest(TermCase):
     def test_values_of_other_kinds(self):
         for thing in (True, False, None, "a", (), (1,), [], low):
             for operation in (
-                lambda: coins + thing, lambda: thing + coins, lambda: coins - thing, lambda: thing - coins, lambda: coins * thing,
+                lambda: coins + thing, lambda: thing + coins, lambda: coins - thing, lambda: thing - coins,
+                lambda: coins * thing,
                 lambda: thing * coins, lambda: low & (coins if thing is low else thing),
                 lambda: low | (coins if thing is low else thing),
             ):
